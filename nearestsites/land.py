@@ -1,4 +1,4 @@
-"""Sites in a square land: which are nearest from a place, and how far their cells go.
+"""Sites in a square land: which are nearest from a place, how far their cells go, how they lie together.
 
 A site stands at a pair of whole numbers. Any other place is held as three whole numbers
 (x, y, w) with w above 0: x by w across and y by w up. One w for both keeps every step in
@@ -9,9 +9,14 @@ ADD = 0
 GONE = 1
 NEAREST = 2
 WITHIN = 3
+CELL = 4
+BESIDE = 5
+LONELIEST = 6
+CLOSEST = 7
+AROUND = 8
 
-# How many numbers stand behind a call's own number, call by call from 0 on; the last is cell.
-NUMBERS_BEHIND = (2, 1, 4, 5, 1)
+# How many numbers stand behind a call's own number, call by call from 0 on; the last is sites.
+NUMBERS_BEHIND = (2, 1, 4, 5, 1, 1, 0, 0, 0, 0)
 
 WRONG_PLACE = -1
 NO_ROOM = -2
@@ -52,7 +57,17 @@ def answer_of(land, call, given):
         return land.nearest(given)
     if call == WITHIN:
         return land.within(given[0], given[1:])
-    return land.cell(given[0])
+    if call == CELL:
+        return land.cell(given[0])
+    if call == BESIDE:
+        return land.beside(given[0])
+    if call == LONELIEST:
+        return land.loneliest()
+    if call == CLOSEST:
+        return land.closest()
+    if call == AROUND:
+        return land.around()
+    return land.sites()
 
 
 class Land:
@@ -107,6 +122,59 @@ class Land:
             answer.extend(fractions_of(corner))
         return answer
 
+    def beside(self, name):
+        if name not in self.places:
+            return [NO_SUCH_SITE]
+        own = self.places[name]
+        corners = self.corners_of(name)
+        others = [other for other in sorted(self.places) if other != name]
+        names = [other for other in others if has_side_towards(corners, own, self.places[other])]
+        return [len(names)] + names
+
+    def loneliest(self):
+        """Of a cell the places furthest from its site are corners, so no other place is looked at."""
+        if len(self.places) == 0:
+            return [TOO_FEW_SITES]
+        rings = []
+        for name in self.places:
+            site = self.places[name]
+            rings.extend([(corner, far_times(corner, site)) for corner in self.corners_of(name)])
+        best = rings[0]
+        for ring in rings:
+            if is_lonelier(ring, best):
+                best = ring
+        return numbers_of(best)
+
+    def closest(self):
+        if len(self.places) < 2:
+            return [TOO_FEW_SITES]
+        names = sorted(self.places)
+        twos = []
+        for at in range(1, len(names)):
+            place = as_place(self.places[names[at]])
+            twos.extend([(far_times(place, self.places[name]), name, names[at]) for name in names[:at]])
+        # As near, the names decide: the tuples are compared from the front.
+        best = min(twos)
+        return [best[1], best[2], best[0], 1]
+
+    def around(self):
+        if len(self.places) == 0:
+            return [TOO_FEW_SITES]
+        sites = list(self.places.values())
+        rings = [ring_round(middle, sites) for middle in middles(sites)]
+        best = rings[0]
+        for ring in rings:
+            if excess(best, ring) > 0:
+                best = ring
+        return numbers_of(best)
+
+    def sites(self):
+        answer = [len(self.places)]
+        for name in sorted(self.places):
+            site = self.places[name]
+            answer.extend([name, site[0], site[1]])
+        return answer
+
     def names_up_to(self, most, place):
         """The names, rising, of the sites whose far_times from the place is at most that."""
         return [name for name in sorted(self.places) if far_times(place, self.places[name]) <= most]
@@ -132,6 +200,10 @@ def is_fraction(above, below):
 
 def place_of(told):
     return (told[0] * told[3], told[2] * told[1], told[1] * told[3])
+
+
+def as_place(site):
+    return (site[0], site[1], 1)
 
 
 def far_times(place, site):
@@ -231,3 +303,80 @@ def is_ahead(one, other):
     across = one[0] * other[2] - other[0] * one[2]
     up = one[1] * other[2] - other[1] * one[2]
     return across < 0 or (across == 0 and up < 0)
+
+
+def has_side_towards(corners, own, other):
+    """Whether own's cell, which has these corners, has a side in common with other's.
+
+    What both have in common is what own's cell has of the line between the two sites. The cell is
+    on one side of that line and no three of its corners are on one: two on it make a side, one a point.
+    """
+    shared = [corner for corner in corners if lead(corner, own, other) == 0]
+    return len(shared) == 2
+
+
+def excess(ring, other):
+    """Above 0 if ring is the larger one, 0 if they are as large, else below 0.
+
+    A ring is a place, its middle, and how far it goes from there, times w * w of the middle.
+    """
+    w = ring[0][2]
+    other_w = other[0][2]
+    return ring[1] * other_w * other_w - other[1] * w * w
+
+
+def is_lonelier(ring, other):
+    """Whether ring is the larger one, or as large and its middle comes first."""
+    more = excess(ring, other)
+    return more > 0 or (more == 0 and is_ahead(ring[0], other[0]))
+
+
+def numbers_of(ring):
+    """The ring's six numbers as they are told."""
+    w = ring[0][2]
+    return fractions_of(ring[0]) + lowest(ring[1], w * w)
+
+
+def ring_round(middle, sites):
+    """The least ring with this middle that goes round all the sites."""
+    return (middle, max([far_times(middle, site) for site in sites]))
+
+
+def middles(sites):
+    """Places of which one is the middle of the least circle round the sites.
+
+    That circle is held by two sites just across from one another or by three, but where there is
+    one site alone. The middle of every such circle is here; those too many do no harm.
+    """
+    found = []
+    for at in range(len(sites)):
+        found.append(as_place(sites[at]))
+        for before in range(at):
+            found.append(halfway(sites[at], sites[before]))
+            found.extend([as_far_from(sites[at], sites[before], third)
+                          for third in sites[:before] if turn(sites[at], sites[before], third) != 0])
+    return found
+
+
+def halfway(one, other):
+    return (one[0] + other[0], one[1] + other[1], 2)
+
+
+def turn(one, other, third):
+    """Above 0 if the way over these three sites turns left, 0 if it's straight, else below 0."""
+    return (other[0] - one[0]) * (third[1] - one[1]) - (other[1] - one[1]) * (third[0] - one[0])
+
+
+def as_far_from(one, other, third):
+    """The place that is as far from one as from other and third; the three aren't on one line."""
+    across = other[0] - one[0]
+    up = other[1] - one[1]
+    far = across * across + up * up
+    third_across = third[0] - one[0]
+    third_up = third[1] - one[1]
+    third_far = third_across * third_across + third_up * third_up
+    w = 2 * turn(one, other, third)
+    x = one[0] * w + far * third_up - third_far * up
+    y = one[1] * w + third_far * across - far * third_across
+    # A place's w is above 0, whichever way round the three sites come.
+    return (x, y, w) if w > 0 else (-x, -y, -w)

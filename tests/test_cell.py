@@ -99,7 +99,8 @@ class Cell(unittest.TestCase):
         self.assertEqual(answers([0, 0, 0, 4, 1, 4, 4294967295]), [1, 0, 1, -3, 1, -3])
 
     def test_a_refused_cell_leaves_all_as_it_was(self):
-        self.assertEqual(told([add(0, 0), cell(1), cell(0), add(0, 0), add(1, 1)]), [[0], [-3], WHOLE_SQUARE, [-4], [1]])
+        calls = [add(0, 0), cell(1), cell(0), add(0, 0), add(1, 1)]
+        self.assertEqual(told(calls), [[0], [-3], WHOLE_SQUARE, [-4], [1]])
 
 
 if __name__ == "__main__":

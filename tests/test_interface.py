@@ -4,11 +4,14 @@ import unittest
 
 from nearestsites import land
 from nearestsites.land import answers
-from tests.helper import add, adds, cell, gone, joined, nearest, told, within
+from tests.helper import (
+    AROUND, CLOSEST, LONELIEST, SITES, add, adds, beside, cell, gone, joined, nearest, told, within)
 
 MIXED = joined([
-    nearest(0, 1, 0, 1), add(1, 2), add(1, 2), add(-7, 30), add(101, 0), nearest(1, 2, 3, 4), within(900, 0, 1, 1, 7),
-    cell(1), gone(0), gone(0), cell(1), add(1, 2), nearest(1, 0, 1, 1), cell(2), cell(0),
+    nearest(0, 1, 0, 1), LONELIEST, CLOSEST, AROUND, SITES, add(1, 2), add(1, 2), add(-7, 30), add(101, 0),
+    nearest(1, 2, 3, 4), within(900, 0, 1, 1, 7), cell(1), beside(1), LONELIEST, CLOSEST, AROUND, SITES,
+    gone(0), gone(0), cell(1), add(1, 2), nearest(1, 0, 1, 1), cell(2), cell(0), beside(0), add(60, -9),
+    LONELIEST, AROUND, CLOSEST,
 ])
 
 
@@ -43,6 +46,21 @@ class Interface(unittest.TestCase):
         calls = adds([(k, -k) for k in range(8)]) + [cell(k % 8) for k in range(30)] + [gone(0), add(0, 0)]
         self.assertEqual(len(calls), 40)
         self.assertEqual(told(calls)[38:], [[7], [8]])
+
+    def test_forty_of_each_call_without_numbers(self):
+        self.assertEqual(answers([9] * 40), [1, 0] * 40)
+        self.assertEqual(answers([6] * 40), [1, -6] * 40)
+        self.assertEqual(answers([7] * 40), [1, -6] * 40)
+        self.assertEqual(answers([8] * 40), [1, -6] * 40)
+
+    def test_the_ten_calls_behind_one_another(self):
+        line = [0, -50, 0, 0, 50, 0, 9, 8, 7, 6, 5, 1, 4, 1, 3, 2500, 0, 1, 0, 1, 2, 0, 1, 0, 1, 1, 0, 9]
+        self.assertEqual(answers(line), [
+            1, 0, 1, 1, 7, 2, 0, -50, 0, 1, 50, 0, 6, 0, 1, 0, 1, 2500, 1, 4, 0, 1, 10000, 1,
+            6, -100, 1, -100, 1, 12500, 1, 2, 1, 0,
+            19, 4, 20000, 1, 0, 1, -100, 1, 100, 1, -100, 1, 100, 1, 100, 1, 0, 1, 100, 1,
+            3, 2, 0, 1, 5, 2, 2500, 1, 0, 1, 1, 1, 4, 1, 1, 50, 0,
+        ])
 
     def test_240_numbers(self):
         calls = [within(0, 0, 1, 0, 1)] * 40
